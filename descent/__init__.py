@@ -1,0 +1,1 @@
+"""Trees of descent, told by distances."""

@@ -1,0 +1,74 @@
+"""The calls of descent: each takes plain numbers and lists, and gives back one list of whole numbers."""
+
+LEAST_KINDS = 2
+MOST_KINDS = 32
+GREATEST_DISTANCE = 1000000
+OUT_OF_RANGE = -2
+
+
+def fits(n, d):
+    """[1] if the distances d of n kinds fit a tree, else [0]; [-2] if n or a distance is out of its range."""
+    if not in_range(n, d):
+        return [OUT_OF_RANGE]
+    return [1 if rows_fit(rows_of(n, d)) else 0]
+
+
+def in_range(n, d):
+    """Whether n is a number of kinds that is allowed, and each of d an allowed distance."""
+    if n < LEAST_KINDS or n > MOST_KINDS:
+        return False
+    return min(d) >= 0 and max(d) <= GREATEST_DISTANCE
+
+
+def rows_of(n, d):
+    """The n rows of n numbers that stand in d one behind another, as new lists."""
+    return [d[i * n:(i + 1) * n] for i in range(n)]
+
+
+def rows_fit(rows):
+    """Whether distances, given as rows, fit a tree."""
+    return own_are_zero(rows) and others_are_apart(rows) and same_both_ways(rows) and fours_agree(rows)
+
+
+def own_are_zero(rows):
+    """Whether the distance of each kind from itself is 0."""
+    for i in range(len(rows)):
+        if rows[i][i] != 0:
+            return False
+    return True
+
+
+def others_are_apart(rows):
+    """Whether the distance of each kind from each other one is above 0."""
+    for i in range(len(rows)):
+        for j in range(len(rows)):
+            if i != j and rows[i][j] <= 0:
+                return False
+    return True
+
+
+def same_both_ways(rows):
+    """Whether i is as far from j as j from i, for each two kinds."""
+    for i in range(len(rows)):
+        for j in range(i):
+            if rows[i][j] != rows[j][i]:
+                return False
+    return True
+
+
+def fours_agree(rows):
+    """Whether any four kinds, some of which may be one, agree; the distances are the same both ways."""
+    # Another order of the same four gives the same three sums, so one order of each four is enough.
+    for i in range(len(rows)):
+        for j in range(i + 1):
+            for k in range(j + 1):
+                for l in range(k + 1):
+                    if not four_agree(rows, i, j, k, l):
+                        return False
+    return True
+
+
+def four_agree(rows, i, j, k, l):
+    """Whether the two greatest of the three sums of the kinds i, j, k, l are equal."""
+    sums = sorted([rows[i][j] + rows[k][l], rows[i][k] + rows[j][l], rows[i][l] + rows[j][k]])
+    return sums[1] == sums[2]
