@@ -3,6 +3,7 @@
 LEAST_KINDS = 2
 MOST_KINDS = 32
 GREATEST_DISTANCE = 1000000
+NO_SUCH_TREE = -1
 OUT_OF_RANGE = -2
 
 
@@ -11,6 +12,17 @@ def fits(n, d):
     if not in_range(n, d):
         return [OUT_OF_RANGE]
     return [1 if rows_fit(rows_of(n, d)) else 0]
+
+
+def text(n, d):
+    """How many bytes the text of the tree has that d fits, then these; [-1] if d fits none; [-2] as of fits."""
+    if not in_range(n, d):
+        return [OUT_OF_RANGE]
+    rows = rows_of(n, d)
+    if not rows_fit(rows):
+        return [NO_SUCH_TREE]
+    written = "0=" + part_text(rows, list(range(1, n)), 0)
+    return [len(written)] + [ord(sign) for sign in written]
 
 
 def in_range(n, d):
@@ -72,3 +84,48 @@ def four_agree(rows, i, j, k, l):
     """Whether the two greatest of the three sums of the kinds i, j, k, l are equal."""
     sums = sorted([rows[i][j] + rows[k][l], rows[i][k] + rows[j][l], rows[i][l] + rows[j][k]])
     return sums[1] == sums[2]
+
+
+def part_text(rows, kinds, start):
+    """The text of kinds, given in rising order, from start on; the rows fit a tree."""
+    # A group is smaller than what it is a group of, so the calls within one another are fewer than the kinds.
+    if len(kinds) == 1:
+        kind = kinds[0]
+        length = 2 * rows[0][kind] - start
+        return f"{kind}:{length}"
+    fork = least_together(rows, kinds)
+    parts = ",".join([part_text(rows, group, fork) for group in groups_behind(rows, kinds, fork)])
+    length = fork - start
+    return f"({parts}):{length}"
+
+
+def together(rows, i, j):
+    """For how many halves the kinds i and j go together, seen from kind 0."""
+    return rows[0][i] + rows[0][j] - rows[i][j]
+
+
+def least_together(rows, kinds):
+    """The least number of halves for which two of several kinds go together."""
+    # The rows fit a tree: where the kinds first part, the first of them parts from another one too.
+    return min([together(rows, kinds[0], kind) for kind in kinds[1:]])
+
+
+def groups_behind(rows, kinds, fork):
+    """The groups of kinds that go together beyond fork, each in the order of kinds, as are their first ones."""
+    groups = []
+    for kind in kinds:
+        group = group_of(rows, groups, kind, fork)
+        if group is None:
+            groups.append([kind])
+        else:
+            group.append(kind)
+    return groups
+
+
+def group_of(rows, groups, kind, fork):
+    """The one of the groups that kind goes together with beyond fork, or None."""
+    # The rows fit a tree: who goes together with one of a group beyond fork does so with all of it.
+    for group in groups:
+        if together(rows, group[0], kind) > fork:
+            return group
+    return None

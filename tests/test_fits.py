@@ -1,13 +1,11 @@
 """Promise 1: fits; and the refusals ahead of it, as far as they speak of fits."""
 
-import contextlib
-import io
 import itertools
 import unittest
-from unittest import mock
 
 from descent.trees import fits
 from distances import EXAMPLE, by_pairs, changed, comb, flat, grown, star
+from manners import Manners, Ranges
 
 
 def fits_by_definition(rows):
@@ -216,91 +214,23 @@ class ByDefinition(FitsCase):
         self.assertIn(False, seen)
 
 
-class Refusals(FitsCase):
-    def test_n_out_of_its_range(self):
-        for n in (1, 33, 0, -1, 34, 1024, -2, -32, -2147483648, 2147483647):
-            self.assertEqual(fits(n, []), [-2], n)
+class Refusals(Ranges, unittest.TestCase):
+    unfit = [0]
 
-    def test_n_at_the_ends_of_its_range(self):
-        self.answers([1], comb(2))
-        self.answers([1], comb(32))
-
-    def test_a_distance_too_great_wherever_it_stands(self):
-        for rows in (comb(2), comb(3), EXAMPLE, comb(32)):
-            n = len(rows)
-            for place in itertools.product(range(n), repeat=2):
-                for distance in (1000001, 2147483647):
-                    self.answers([-2], changed(rows, [place], distance))
-
-    def test_all_distances_too_great(self):
-        self.answers([-2], by_pairs(2, lambda i, j: 1000001))
-        self.answers([-2], by_pairs(32, lambda i, j: 2147483647))
-
-    def test_a_distance_below_0(self):
-        for place in itertools.product(range(4), repeat=2):
-            self.answers([-2], changed(EXAMPLE, [place], -1))
-
-    def test_the_greatest_distance_wherever_it_stands_is_no_refusal(self):
-        for i, j in itertools.product(range(4), repeat=2):
-            self.answers([0], changed(EXAMPLE, [(i, j)], 1000000))
-
-    def test_a_distance_too_great_where_the_rest_does_not_fit(self):
-        wrong = (
-            changed(EXAMPLE, [(0, 0)], 1),
-            by_pairs(4, lambda i, j: 0),
-            changed(EXAMPLE, [(0, 1)], 6),
-            changed(EXAMPLE, [(0, 1), (1, 0)], 8),
-            star([-4, 5, 5, 5]),
-        )
-        for rows in wrong:
-            self.answers([0], rows)
-            for place in itertools.product(range(4), repeat=2):
-                for distance in (1000001, 2147483647):
-                    self.answers([-2], changed(rows, [place], distance))
+    def asked(self, n, d):
+        return fits(n, d)
 
 
-class Untouched(list):
-    """A list that fails where it is changed, be it for a while."""
-
-    def refuse(self, *args, **kwargs):
-        raise AssertionError("what is handed in is changed")
-
-    __setitem__ = __delitem__ = __iadd__ = __imul__ = refuse
-    append = clear = extend = insert = pop = remove = reverse = sort = refuse
-
-
-class Interface(unittest.TestCase):
+class Interface(Manners, unittest.TestCase):
+    call = (fits,)
     calls = (
-        (4, flat(EXAMPLE), [1]),
-        (32, flat(comb(32)), [1]),
-        (3, [0, 1, 3, 1, 0, 1, 3, 1, 0], [0]),
-        (2, [0, 1, 2, 0], [0]),
-        (2, [0, 1000001, 1, 0], [-2]),
-        (33, [], [-2]),
+        ({"n": 4, "d": flat(EXAMPLE)}, [1]),
+        ({"n": 32, "d": flat(comb(32))}, [1]),
+        ({"n": 3, "d": [0, 1, 3, 1, 0, 1, 3, 1, 0]}, [0]),
+        ({"n": 2, "d": [0, 1, 2, 0]}, [0]),
+        ({"n": 2, "d": [0, 1000001, 1, 0]}, [-2]),
+        ({"n": 33, "d": []}, [-2]),
     )
-
-    def test_a_list_of_one_whole_number(self):
-        for n, d, answer in self.calls:
-            given = fits(n, d)
-            self.assertIs(type(given), list)
-            self.assertEqual([type(number) for number in given], [int])
-
-    def test_by_the_names_of_the_parameters(self):
-        for n, d, answer in self.calls:
-            self.assertEqual(fits(n=n, d=d), answer)
-
-    def test_what_is_handed_in_is_not_changed(self):
-        for n, d, answer in self.calls:
-            handed = Untouched(d)
-            self.assertEqual(fits(n, handed), answer)
-            self.assertEqual(handed, d)
-
-    def test_nothing_is_kept(self):
-        for n, d, answer in self.calls + self.calls[::-1]:
-            first = fits(n, d)
-            self.assertEqual(first, answer)
-            first.append(7)
-            self.assertEqual(fits(n, d), answer)
 
     def test_a_list_that_changed_between_two_calls(self):
         d = [0, 1, 1, 0]
@@ -309,17 +239,6 @@ class Interface(unittest.TestCase):
         self.assertEqual(fits(2, d), [0])
         d[1] = 1
         self.assertEqual(fits(2, d), [1])
-
-    def test_it_prints_reads_and_imports_nothing(self):
-        out = io.StringIO()
-        with contextlib.redirect_stdout(out), contextlib.redirect_stderr(out):
-            with mock.patch("builtins.open") as opened, mock.patch("builtins.input") as asked:
-                with mock.patch("builtins.__import__") as imported:
-                    answers = [fits(n, d) for n, d, answer in self.calls]
-        self.assertEqual(answers, [answer for n, d, answer in self.calls])
-        self.assertEqual(out.getvalue(), "")
-        for used in (opened, asked, imported):
-            used.assert_not_called()
 
 
 if __name__ == "__main__":
