@@ -3,6 +3,9 @@
 LEAST_KINDS = 2
 MOST_KINDS = 32
 GREATEST_DISTANCE = 1000000
+MOST_BYTES = 4096
+GREATEST_LENGTH = 2147483647
+SIGNS = "0123456789=:,()"
 NO_SUCH_TREE = -1
 OUT_OF_RANGE = -2
 
@@ -23,6 +26,20 @@ def text(n, d):
         return [NO_SUCH_TREE]
     written = "0=" + part_text(rows, list(range(1, n)), 0)
     return [len(written)] + [ord(sign) for sign in written]
+
+
+def read(data):
+    """n of the tree that the bytes tell, then its n rows in halves; [-1] if they tell none; [-2] if too many."""
+    if len(data) > MOST_BYTES:
+        return [OUT_OF_RANGE]
+    try:
+        rows = rows_told(signs_of(data))
+    except NotATree:
+        return [NO_SUCH_TREE]
+    answer = [len(rows)]
+    for row in rows:
+        answer.extend(row)
+    return answer
 
 
 def in_range(n, d):
@@ -129,3 +146,112 @@ def group_of(rows, groups, kind, fork):
         if together(rows, group[0], kind) > fork:
             return group
     return None
+
+
+def signs_of(data):
+    """The text of the bytes, with a blank for each byte that stands in no tree's text."""
+    known = {}
+    for sign in SIGNS:
+        known[ord(sign)] = sign
+    return "".join([known.get(byte, " ") for byte in data])
+
+
+def rows_told(signs):
+    """The rows, in halves, of the tree whose text the signs are; NotATree is raised if they are none."""
+    reader = TextReader(signs)
+    reader.take_text()
+    n = len(reader.kinds) + 1
+    if sorted(reader.kinds) != list(range(1, n)):
+        raise NotATree()
+    rows = [[0] * n for kind in range(n)]
+    for first, behind, length in reader.parts:
+        add_part(rows, reader.kinds[first:behind], length)
+    return rows
+
+
+def add_part(rows, held, length):
+    """Adds the length of a part to each way between a kind that it holds and one that it doesn't."""
+    for i in held:
+        for j in range(len(rows)):
+            if j not in held:
+                rows[i][j] += length
+                rows[j][i] += length
+
+
+class NotATree(ValueError):
+    """Raised where a text isn't a tree's text."""
+
+
+class TextReader:
+    """Goes through a text from front to back, and takes down the kinds and the parts in it.
+
+    A part is (first, behind, length): it holds kinds[first:behind].
+    """
+
+    def __init__(self, signs):
+        self.signs = signs
+        self.at = 0
+        self.kinds = []
+        self.parts = []
+        # For each bracket that is still open, how many kinds stand ahead of it.
+        self.opened = []
+
+    def take_text(self):
+        """Takes the whole text."""
+        self.take("0=")
+        self.take_kind()
+        self.take_closings()
+        while self.opened:
+            self.take(",")
+            self.take_kind()
+            self.take_closings()
+        if self.at < len(self.signs):
+            raise NotATree()
+
+    def take_kind(self):
+        """Takes a part that is one kind, and the brackets that open ahead of it."""
+        while self.sees("("):
+            self.take("(")
+            self.opened.append(len(self.kinds))
+        self.kinds.append(self.take_number(1, MOST_KINDS - 1))
+        self.take_length(len(self.kinds) - 1)
+
+    def take_closings(self):
+        """Takes the brackets that close here."""
+        while self.opened and self.sees(")"):
+            self.take(")")
+            first = self.opened.pop()
+            # The last part within a bracket is the only one there if it begins where the bracket does.
+            if self.parts[-1][0] == first:
+                raise NotATree()
+            self.take_length(first)
+
+    def take_length(self, first):
+        """Takes the length of the part that holds the kinds from first on, and with it the part."""
+        self.take(":")
+        length = self.take_number(0, GREATEST_LENGTH)
+        self.parts.append((first, len(self.kinds), length))
+
+    def sees(self, sign):
+        """Whether sign stands here."""
+        return self.signs.startswith(sign, self.at)
+
+    def take(self, sign):
+        """Takes sign, which must stand here."""
+        if not self.sees(sign):
+            raise NotATree()
+        self.at += len(sign)
+
+    def take_number(self, least, most):
+        """Takes a number without a zero in front, which must stand here and be from least to most."""
+        start = self.at
+        while self.at < len(self.signs) and self.signs[self.at].isdigit():
+            self.at += 1
+        digits = self.signs[start:self.at]
+        # More digits than the greatest number has are too many, and may be more than int takes.
+        if digits == "" or len(digits) > len(str(most)):
+            raise NotATree()
+        number = int(digits)
+        if str(number) != digits or number < least or number > most:
+            raise NotATree()
+        return number
