@@ -42,6 +42,18 @@ def read(data):
     return answer
 
 
+def apart(n, a, b):
+    """How many sets one of a and b cuts off and the other doesn't; [-1] if one of them fits no tree; [-2] as of fits."""
+    if not in_range(n, a) or not in_range(n, b):
+        return [OUT_OF_RANGE]
+    first = rows_of(n, a)
+    second = rows_of(n, b)
+    if not rows_fit(first) or not rows_fit(second):
+        return [NO_SUCH_TREE]
+    kinds = list(range(1, n))
+    return [len(set(sets_cut_off(first, kinds)) ^ set(sets_cut_off(second, kinds)))]
+
+
 def in_range(n, d):
     """Whether n is a number of kinds that is allowed, and each of d an allowed distance."""
     if n < LEAST_KINDS or n > MOST_KINDS:
@@ -146,6 +158,19 @@ def group_of(rows, groups, kind, fork):
         if together(rows, group[0], kind) > fork:
             return group
     return None
+
+
+def sets_cut_off(rows, kinds):
+    """The sets that are cut off within kinds, as tuples in rising order; kinds, in that order, are all or a group."""
+    # A set is cut off by a way, longer than 0, that all of it goes together and no other kind goes: that of a group.
+    # Kinds part into two groups at least, so none of them has more than n - 2 kinds.
+    found = []
+    if len(kinds) > 1:
+        for group in groups_behind(rows, kinds, least_together(rows, kinds)):
+            if len(group) > 1:
+                found.append(tuple(group))
+                found.extend(sets_cut_off(rows, group))
+    return found
 
 
 def signs_of(data):
