@@ -43,7 +43,7 @@ def read(data):
 
 
 def apart(n, a, b):
-    """How many sets one of a and b cuts off and the other doesn't; [-1] if one of them fits no tree; [-2] as of fits."""
+    """How many sets one of a and b cuts off and the other doesn't; [-1] if one fits no tree; [-2] as of fits."""
     if not in_range(n, a) or not in_range(n, b):
         return [OUT_OF_RANGE]
     first = rows_of(n, a)
@@ -52,6 +52,14 @@ def apart(n, a, b):
         return [NO_SUCH_TREE]
     kinds = list(range(1, n))
     return [len(set(sets_cut_off(first, kinds)) ^ set(sets_cut_off(second, kinds)))]
+
+
+def clock(n, d):
+    """[1] if d fits a tree and of any three kinds the two greatest distances are equal, else [0]; [-2] as of fits."""
+    if not in_range(n, d):
+        return [OUT_OF_RANGE]
+    rows = rows_of(n, d)
+    return [1 if rows_fit(rows) and threes_agree(rows) else 0]
 
 
 def in_range(n, d):
@@ -113,6 +121,17 @@ def four_agree(rows, i, j, k, l):
     """Whether the two greatest of the three sums of the kinds i, j, k, l are equal."""
     sums = sorted([rows[i][j] + rows[k][l], rows[i][k] + rows[j][l], rows[i][l] + rows[j][k]])
     return sums[1] == sums[2]
+
+
+def threes_agree(rows):
+    """Whether of any three kinds the two greatest of their three distances are equal; the rows fit a tree."""
+    for i in range(len(rows)):
+        for j in range(i):
+            for k in range(j):
+                far = sorted([rows[i][j], rows[i][k], rows[j][k]])
+                if far[1] != far[2]:
+                    return False
+    return True
 
 
 def part_text(rows, kinds, start):

@@ -96,7 +96,11 @@ def halves(tree):
     """The rows of a tree's kinds, 0 among them, in halves: what lies in parts that hold one of the two alone."""
     parts = [(held(part), part[1]) for part in parts_within(tree)]
     n = len(held(tree)) + 1
-    return [[sum(length for kinds, length in parts if (i in kinds) != (j in kinds)) for j in range(n)] for i in range(n)]
+
+    def way(i, j):
+        return sum(length for kinds, length in parts if (i in kinds) != (j in kinds))
+
+    return [[way(i, j) for j in range(n)] for i in range(n)]
 
 
 def wholes(tree):

@@ -22,8 +22,8 @@ def is_cut_off(rows, inside):
 def cut_off_by_definition(rows):
     """All sets that are cut off, out of all that there are."""
     n = len(rows)
-    sizes = range(2, n - 1)
-    return {inside for size in sizes for inside in itertools.combinations(range(1, n), size) if is_cut_off(rows, inside)}
+    sets = [inside for size in range(2, n - 1) for inside in itertools.combinations(range(1, n), size)]
+    return {inside for inside in sets if is_cut_off(rows, inside)}
 
 
 def turned(rows, order):
