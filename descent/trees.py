@@ -62,6 +62,19 @@ def clock(n, d):
     return [1 if rows_fit(rows) and threes_agree(rows) else 0]
 
 
+def middle(n, i, j, k, d):
+    """How many halves the point where the ways between i, j and k meet is from i; [-1] if d fits no tree.
+
+    [-2] as of fits, and if i, j or k is no kind.
+    """
+    if not in_range(n, d) or min(i, j, k) < 0 or max(i, j, k) >= n:
+        return [OUT_OF_RANGE]
+    rows = rows_of(n, d)
+    if not rows_fit(rows):
+        return [NO_SUCH_TREE]
+    return [together_from(rows, i, j, k)]
+
+
 def in_range(n, d):
     """Whether n is a number of kinds that is allowed, and each of d an allowed distance."""
     if n < LEAST_KINDS or n > MOST_KINDS:
@@ -149,7 +162,12 @@ def part_text(rows, kinds, start):
 
 def together(rows, i, j):
     """For how many halves the kinds i and j go together, seen from kind 0."""
-    return rows[0][i] + rows[0][j] - rows[i][j]
+    return together_from(rows, 0, i, j)
+
+
+def together_from(rows, origin, i, j):
+    """For how many halves the kinds i and j go together, seen from kind origin."""
+    return rows[origin][i] + rows[origin][j] - rows[i][j]
 
 
 def least_together(rows, kinds):
